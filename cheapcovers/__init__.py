@@ -1,0 +1,1 @@
+"""Cheapcovers: things covered by the cheapest sets."""

@@ -1,0 +1,72 @@
+"""Stocks, tuples (many, offers), and their lots, rising tuples of offers' numbers."""
+
+from cheapcovers.errors import NoCover, NotFull
+from cheapcovers.kinds import is_pair, is_rising, is_whole
+
+MOST_THINGS = 10
+MOST_OFFERS = 12
+
+
+def is_stock(thing):
+    if not is_pair(thing):
+        return False
+    many = thing[0]
+    offers = thing[1]
+    if not is_whole(many) or many < 1 or many > MOST_THINGS:
+        return False
+    if not isinstance(offers, tuple) or len(offers) > MOST_OFFERS:
+        return False
+    return all([is_offer(offer, many) for offer in offers])
+
+
+def is_offer(thing, many):
+    if not is_pair(thing):
+        return False
+    things = thing[0]
+    price = thing[1]
+    return is_rising(things, many) and len(things) > 0 and is_whole(price) and price > 0
+
+
+def is_lot(stock, thing):
+    return is_rising(thing, len(stock[1]))
+
+
+def is_full(stock):
+    return have_all(stock, stock[1])
+
+
+def things_of(stock, lot):
+    return things_together(offers_of(stock, lot))
+
+
+def price_of(stock, lot):
+    return sum([offer[1] for offer in offers_of(stock, lot)])
+
+
+def needed(stock):
+    if not is_full(stock):
+        raise NotFull("some thing is in no offer of the stock")
+    return [number for number in range(len(stock[1])) if is_needed(stock, number)]
+
+
+def is_needed(stock, number):
+    # All other offers are the most that a cover without this one can have.
+    offers = stock[1]
+    return not have_all(stock, offers[:number] + offers[number + 1:])
+
+
+def offers_of(stock, lot):
+    if not is_lot(stock, lot):
+        raise NoCover("not a rising tuple of numbers of the stock's offers")
+    return [stock[1][number] for number in lot]
+
+
+def things_together(offers):
+    things = []
+    for offer in offers:
+        things.extend(offer[0])
+    return tuple(sorted(set(things)))
+
+
+def have_all(stock, offers):
+    return len(things_together(offers)) == stock[0]
