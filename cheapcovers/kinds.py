@@ -1,4 +1,4 @@
-"""Kinds that all modules look for in what they are handed: whole numbers, pairs, rising tuples."""
+"""Kinds that all modules share: whole numbers, pairs, rising tuples, fractions (top, bottom)."""
 
 
 def is_whole(thing):
@@ -20,3 +20,22 @@ def is_rising(thing, bound):
             return False
         least = number + 1
     return True
+
+
+def reduced(top, bottom):
+    shared = greatest_divisor(top, bottom)
+    return (top // shared, bottom // shared)
+
+
+def greatest_divisor(top, bottom):
+    one = abs(top)
+    other = bottom
+    while other > 0:
+        rest = one % other
+        one = other
+        other = rest
+    return one
+
+
+def is_less(fraction, other):
+    return fraction[0] * other[1] < other[0] * fraction[1]

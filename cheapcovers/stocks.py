@@ -1,6 +1,6 @@
 """Stocks, tuples (many, offers), and their lots, rising tuples of offers' numbers."""
 
-from cheapcovers.errors import NoCover, NotFull
+from cheapcovers.errors import NoCover, NoOffer, NotFull
 from cheapcovers.kinds import is_pair, is_rising, is_whole
 
 MOST_THINGS = 10
@@ -44,8 +44,7 @@ def price_of(stock, lot):
 
 
 def needed(stock):
-    if not is_full(stock):
-        raise NotFull("some thing is in no offer of the stock")
+    need_full(stock)
     return [number for number in range(len(stock[1])) if is_needed(stock, number)]
 
 
@@ -53,6 +52,16 @@ def is_needed(stock, number):
     # All other offers are the most that a cover without this one can have.
     offers = stock[1]
     return not have_all(stock, offers[:number] + offers[number + 1:])
+
+
+def need_full(stock):
+    if not is_full(stock):
+        raise NotFull("some thing is in no offer of the stock")
+
+
+def need_offer(stock, offer):
+    if not is_whole(offer) or offer < 0 or offer >= len(stock[1]):
+        raise NoOffer("not a number of one of the stock's offers")
 
 
 def offers_of(stock, lot):

@@ -1,6 +1,9 @@
 """Stocks and things of other kinds that several tests hand in."""
 
-from itertools import combinations, combinations_with_replacement
+import random
+from itertools import combinations_with_replacement
+
+from tests.plain import subsets
 
 
 def nested(kind, deep):
@@ -23,11 +26,6 @@ def other_kinds():
     ]
 
 
-def subsets(numbers):
-    numbers = list(numbers)
-    return [chosen for size in range(len(numbers) + 1) for chosen in combinations(numbers, size)]
-
-
 def small_stocks(most_offers):
     """All stocks of one to three things with at most so many offers, their order aside; prices tell them apart."""
     stocks = []
@@ -37,6 +35,73 @@ def small_stocks(most_offers):
             for chosen in combinations_with_replacement(sets, size):
                 stocks.append((many, tuple((things, 7 ** place) for place, things in enumerate(chosen))))
     return stocks
+
+
+def drawn_price(draw, sort):
+    if sort == "alike":
+        return draw.choice((3, 3, 3, 6))
+    if sort == "small":
+        return draw.randint(1, 9)
+    if sort == "great":
+        return draw.choice((10 ** 40 - 1, 10 ** 39, 10 ** 39 + 1, draw.randint(1, 10 ** 40 - 1)))
+    return draw.randint(1, 10 ** draw.randint(1, 40) - 1)
+
+
+def drawn_stock(draw, many, count):
+    """A stock drawn from few or many things an offer; about half of them lack a thing or have few covers."""
+    sort = draw.choice(("alike", "small", "great", "mixed"))
+    most = draw.randint(1, many)
+    offers = []
+    for place in range(count):
+        things = tuple(sorted(draw.sample(range(many), draw.randint(1, most))))
+        offers.append((things, drawn_price(draw, sort)))
+    return (many, tuple(offers))
+
+
+def filled(draw, stock):
+    """The stock with each lacking thing put into some offer, so that it is full; it has an offer at least."""
+    many, offers = stock
+    offers = [[set(things), price] for things, price in offers]
+    for thing in range(many):
+        if not any(thing in things for things, price in offers):
+            draw.choice(offers)[0].add(thing)
+    return (many, tuple((tuple(sorted(things)), price) for things, price in offers))
+
+
+def drawn_full(seed, most_offers=12):
+    """Full stocks of one to ten things and one to so many offers, each pair of counts once."""
+    draw = random.Random(seed)
+    return [filled(draw, drawn_stock(draw, many, count))
+            for many in range(1, 11) for count in range(1, most_offers + 1)]
+
+
+def drawn_lacking(seed):
+    """Stocks of one to ten things and none to twelve offers that lack a thing."""
+    draw = random.Random(seed)
+    stocks = []
+    for many in range(1, 11):
+        for count in range(13 if many > 1 else 1):
+            lacking = draw.randrange(many)
+            offers = drawn_stock(draw, many - 1, count)[1] if many > 1 else ()
+            stocks.append((many, tuple((tuple(thing + (thing >= lacking) for thing in things), price)
+                                       for things, price in offers)))
+    return stocks
+
+
+def spoilt(lot, count):
+    """The lot of a stock of so many offers with one thing otherwise: no lot any more."""
+    things = [list(lot), {number: True for number in lot}, str(lot), (lot,), lot + (count,), lot + (-1,), (-1,) + lot,
+              lot + (None,), lot + ("0",), lot + ((),), lot + ([],), lot + (10 ** 39,)]
+    for place, number in enumerate(lot):
+        for other in (number == 1, not number, None, str(number), count, count + number, -1, -number - 1, (number,),
+                      [number], {}, number - count, (number, 1), 10 ** 39):
+            things.append(lot[:place] + (other,) + lot[place + 1:])
+        things.append(lot[:place] + (number,) + lot[place:])
+    if len(lot) > 1:
+        things.append(lot[::-1])
+        things.append(lot[1:] + lot[:1])
+        things.append(lot[:1] + lot)
+    return things
 
 
 FULL_STOCKS = [

@@ -5,24 +5,10 @@ import unittest
 
 from cheapcovers.errors import NoCover, NotFull
 from cheapcovers.stocks import is_full, is_stock, needed, price_of, things_of
-from tests.samples import FULL_STOCKS, LACKING_STOCKS, other_kinds, small_stocks, subsets
+from tests.plain import lots_of, price_by_hand, subsets, things_by_hand
+from tests.samples import FULL_STOCKS, LACKING_STOCKS, other_kinds, small_stocks
 
 ALL_THINGS = tuple(range(10))
-
-
-def things_by_hand(stock, lot):
-    return tuple(thing for thing in range(stock[0]) if any(thing in stock[1][number][0] for number in lot))
-
-
-def price_by_hand(stock, lot):
-    total = 0
-    for number in lot:
-        total = total + stock[1][number][1]
-    return total
-
-
-def lots_of(stock):
-    return subsets(range(len(stock[1])))
 
 
 def needed_by_hand(stock):
