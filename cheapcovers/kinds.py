@@ -28,7 +28,7 @@ def reduced(top, bottom):
 
 
 def greatest_divisor(top, bottom):
-    one = abs(top)
+    one = top
     other = bottom
     while other > 0:
         rest = one % other
@@ -39,3 +39,18 @@ def greatest_divisor(top, bottom):
 
 def is_less(fraction, other):
     return fraction[0] * other[1] < other[0] * fraction[1]
+
+
+def is_fraction(thing):
+    if not is_pair(thing) or not is_whole(thing[0]) or not is_whole(thing[1]):
+        return False
+    return thing[1] > 0 and greatest_divisor(thing[0], thing[1]) == 1
+
+
+def together(fractions):
+    top = 0
+    bottom = 1
+    for fraction in fractions:
+        top = top * fraction[1] + fraction[0] * bottom
+        bottom = bottom * fraction[1]
+    return reduced(top, bottom)

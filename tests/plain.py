@@ -1,5 +1,6 @@
 """A plain look at all lots of a stock, apart from the program, that its answers are held against."""
 
+import math
 from fractions import Fraction
 from itertools import combinations
 
@@ -81,3 +82,64 @@ def way_by_hand(stock):
 def as_pair(fraction):
     """A fraction of Python's own as a tuple (top, bottom)."""
     return (fraction.numerator, fraction.denominator)
+
+
+def as_fraction(thing):
+    """A tuple (top, bottom) as a fraction of Python's own; None of all that is none."""
+    if type(thing) is not tuple or [type(part) for part in thing] != [int, int]:
+        return None
+    top, bottom = thing
+    return Fraction(top, bottom) if bottom >= 1 and math.gcd(top, bottom) == 1 else None
+
+
+def shares_by_hand(thing, count):
+    """A tuple of so many fractions from 0 on, as a list of Python's own; None of all that is none."""
+    if type(thing) is not tuple or len(thing) != count:
+        return None
+    shares = [as_fraction(part) for part in thing]
+    return None if any(share is None or share < 0 for share in shares) else shares
+
+
+def is_bearing_by_hand(stock, thing):
+    shares = shares_by_hand(thing, stock[0])
+    return shares is not None and all(sum(shares[one] for one in things) <= price for things, price in stock[1])
+
+
+def is_sharing_by_hand(stock, thing):
+    shares = shares_by_hand(thing, len(stock[1]))
+    if shares is None:
+        return False
+    return all(sum(share for offer, share in zip(stock[1], shares) if one in offer[0]) >= 1 for one in range(stock[0]))
+
+
+def shared_price_by_hand(stock, sharing):
+    return sum(Fraction(*share) * price for share, (things, price) in zip(sharing, stock[1]))
+
+
+def shown_by_hand(stock, paper, taken=frozenset(), left_out=frozenset()):
+    """What a paper shows, a fraction of Python's own; None of all that is no paper."""
+    if type(paper) is not tuple:
+        return None
+    if len(paper) == 2 and type(paper[0]) is str and paper[0] == "bear":
+        return leaf_by_hand(stock, paper[1], taken, left_out)
+    if len(paper) != 4 or type(paper[0]) is not str or paper[0] != "cases":
+        return None
+    number = paper[1]
+    if type(number) is not int or number not in set(range(len(stock[1]))) - taken - left_out:
+        return None
+    parts = (shown_by_hand(stock, paper[2], taken | {number}, left_out),
+             shown_by_hand(stock, paper[3], taken, left_out | {number}))
+    return None if None in parts else min(parts)
+
+
+def leaf_by_hand(stock, bearing, taken, left_out):
+    shares = shares_by_hand(bearing, stock[0])
+    if shares is None:
+        return None
+    for number, (things, price) in enumerate(stock[1]):
+        borne = sum(shares[thing] for thing in things)
+        if number in taken and borne != 0:
+            return None
+        if number not in taken and number not in left_out and borne > price:
+            return None
+    return price_by_hand(stock, taken) + sum(shares)

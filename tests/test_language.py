@@ -24,6 +24,9 @@ PYTHONS_OWN = (
     "ArithmeticError OverflowError RuntimeError NotImplementedError AttributeError StopIteration"
 ).split()
 
+WALKED = ("zip", "enumerate", "reversed", "range", "items", "keys", "values")
+WALKERS = ("list", "tuple", "dict", "sorted", "sum", "any", "all", "enumerate", "zip")
+
 WORDS_OUT = (
     "type typing typing_extensions enum Enum IntEnum StrEnum Flag IntFlag Generic Protocol ABC ABCMeta namedtuple "
     "NamedTuple TypedDict TYPE_CHECKING abstractmethod"
@@ -46,6 +49,24 @@ def trees():
 
 def nodes():
     return [(name, node) for name, tree in trees() for node in ast.walk(tree)]
+
+
+def called(node):
+    """The name of the function or method that a call calls; None of all else."""
+    if not isinstance(node, ast.Call):
+        return None
+    return node.func.id if isinstance(node.func, ast.Name) else getattr(node.func, "attr", None)
+
+
+def with_parents():
+    return [(name, child, node) for name, node in nodes() for child in ast.iter_child_nodes(node)]
+
+
+def own_names(tree):
+    """The names of a file's classes and of all that it imports."""
+    names = [node.name for node in tree.body if isinstance(node, ast.ClassDef)]
+    rows = [node for node in tree.body if isinstance(node, ast.ImportFrom)]
+    return names + [alias.name for row in rows for alias in row.names]
 
 
 class Language(unittest.TestCase):
@@ -108,6 +129,68 @@ class Language(unittest.TestCase):
         for name, node in nodes():
             if isinstance(node, ast.Call) and isinstance(node.func, ast.Attribute):
                 self.assertIn(node.func.attr, METHODS + own + ["__init__"], name)
+
+    def test_what_is_walked_is_walked_on_the_spot(self):
+        for name, child, parent in with_parents():
+            if called(child) in WALKED:
+                where = (name, child.lineno)
+                if isinstance(parent, (ast.For, ast.comprehension)):
+                    self.assertIs(child, parent.iter, where)
+                else:
+                    self.assertIn(called(parent), WALKERS, where)
+                    self.assertIs(child, parent.args[0], where)
+
+    def test_sets_are_not_kept(self):
+        for name, child, parent in with_parents():
+            self.assertNotIsInstance(child, ast.Set, name)
+            self.assertNotEqual(called(child), "frozenset", name)
+            if called(child) == "set":
+                self.assertIn(called(parent), ("sorted", "len"), (name, child.lineno))
+                self.assertEqual(parent.keywords, [], (name, child.lineno))
+
+    def test_is_stands_beside_none_and_truths_alone(self):
+        for name, node in nodes():
+            if isinstance(node, ast.Compare) and any(isinstance(sign, (ast.Is, ast.IsNot)) for sign in node.ops):
+                self.assertEqual(len(node.ops), 1, (name, node.lineno))
+                self.assertIsInstance(node.comparators[0], ast.Constant, (name, node.lineno))
+                self.assertIn(node.comparators[0].value, (None, True, False), (name, node.lineno))
+
+    def test_no_local_is_called_like_an_import_or_a_class(self):
+        for name, tree in trees():
+            for node in ast.walk(tree):
+                if isinstance(node, ast.arg):
+                    self.assertNotIn(node.arg, own_names(tree), name)
+                if isinstance(node, ast.Name) and isinstance(node.ctx, ast.Store):
+                    self.assertNotIn(node.id, own_names(tree), name)
+
+    def test_imports_are_used_and_defined_where_they_are_drawn_from(self):
+        defined = {}
+        for name, tree in trees():
+            kinds = (ast.FunctionDef, ast.ClassDef)
+            defined["cheapcovers." + name[:-3]] = [node.name for node in tree.body if isinstance(node, kinds)]
+        for name, tree in trees():
+            used = [node.id for node in ast.walk(tree) if isinstance(node, ast.Name)]
+            for node in tree.body:
+                if isinstance(node, ast.ImportFrom):
+                    for alias in node.names:
+                        self.assertIn(alias.name, defined[node.module], name)
+                        self.assertIn(alias.name, used, name)
+                        self.assertIsNone(alias.asname, name)
+
+    def test_no_two_files_draw_from_one_another(self):
+        drawn = {}
+        for name, tree in trees():
+            drawn["cheapcovers." + name[:-3]] = [node.module for node in tree.body if isinstance(node, ast.ImportFrom)]
+        settled = []
+        while len(settled) < len(drawn):
+            more = [name for name in drawn if name not in settled and set(drawn[name]) <= set(settled)]
+            self.assertTrue(more, "files draw from one another")
+            settled.extend(more)
+
+    def test_texts(self):
+        for name, node in nodes():
+            if isinstance(node, ast.Constant) and isinstance(node.value, str):
+                self.assertNotIn("%", node.value, name)
 
 
 if __name__ == "__main__":
