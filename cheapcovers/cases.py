@@ -5,7 +5,7 @@ from cheapcovers.cheapest import cheapest_cover
 from cheapcovers.errors import NoNumber
 from cheapcovers.kinds import is_fraction, is_less, is_whole, together
 from cheapcovers.shares import are_shares, is_borne
-from cheapcovers.stocks import price_of, things_together
+from cheapcovers.stocks import narrowed, price_of, rest_of, things_together
 
 
 def paper_shows(stock, least, thing):
@@ -75,15 +75,6 @@ def paper_behind(stock, least, taken, left_out):
 def bear_paper(stock, things, shares):
     borne = dict(zip(things, shares))
     return ("bear", tuple([borne.get(thing, (0, 1)) for thing in range(stock[0])]))
-
-
-def rest_of(stock, wanted, free):
-    offers = [stock[1][number] for number in free]
-    return (len(wanted), tuple([(narrowed(offer, wanted), offer[1]) for offer in offers]))
-
-
-def narrowed(offer, wanted):
-    return tuple([place for place, thing in enumerate(wanted) if thing in offer[0]])
 
 
 def split_offer(free, sharing):

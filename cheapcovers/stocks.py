@@ -64,9 +64,13 @@ def need_offer(stock, offer):
         raise NoOffer("not a number of one of the stock's offers")
 
 
-def offers_of(stock, lot):
+def need_lot(stock, lot):
     if not is_lot(stock, lot):
         raise NoCover("not a rising tuple of numbers of the stock's offers")
+
+
+def offers_of(stock, lot):
+    need_lot(stock, lot)
     return [stock[1][number] for number in lot]
 
 
@@ -79,3 +83,17 @@ def things_together(offers):
 
 def have_all(stock, offers):
     return len(things_together(offers)) == stock[0]
+
+
+def offers_with(stock, thing):
+    return tuple([number for number, offer in enumerate(stock[1]) if thing in offer[0]])
+
+
+def rest_of(stock, things, numbers):
+    # What is left is numbered anew: each thing and each offer by its place among those that stay.
+    offers = [stock[1][number] for number in numbers]
+    return (len(things), tuple([(narrowed(offer, things), offer[1]) for offer in offers]))
+
+
+def narrowed(offer, things):
+    return tuple([place for place, thing in enumerate(things) if thing in offer[0]])

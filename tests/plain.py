@@ -143,3 +143,105 @@ def leaf_by_hand(stock, bearing, taken, left_out):
         if number not in taken and number not in left_out and borne > price:
             return None
     return price_by_hand(stock, taken) + sum(shares)
+
+
+def rising_by_hand(thing, bound):
+    """A rising tuple of unlike whole numbers from 0 on that are less than the bound."""
+    if type(thing) is not tuple or any(type(number) is not int for number in thing):
+        return False
+    return list(thing) == sorted(set(thing)) and all(0 <= number < bound for number in thing)
+
+
+def is_hit_by_hand(stock, thing):
+    return rising_by_hand(thing, stock[0]) and all(set(things) & set(thing) for things, price in stock[1])
+
+
+def fewest_hit_by_hand(stock):
+    """The first hit among all tuples of things, those of fewer things ahead."""
+    return next(things for things in subsets(range(stock[0])) if is_hit_by_hand(stock, things))
+
+
+def are_apart_by_hand(stock, thing):
+    if not rising_by_hand(thing, len(stock[1])):
+        return False
+    return all(not set(stock[1][one][0]) & set(stock[1][other][0]) for one, other in combinations(thing, 2))
+
+
+def most_apart_by_hand(stock):
+    lots = [lot for lot in lots_of(stock) if are_apart_by_hand(stock, lot)]
+    most = max(len(lot) for lot in lots)
+    return min(lot for lot in lots if len(lot) == most)
+
+
+def ruled_by_hand(numbers, yields):
+    """Tuples (number, least number that rules it); yields(a, b) tells whether a may be left out for b."""
+    found = []
+    for number in numbers:
+        rulers = []
+        for other in numbers:
+            if other != number and yields(number, other):
+                mutual = yields(other, number)
+                if not mutual or other < number:
+                    rulers.append(other)
+        if rulers:
+            found.append((number, min(rulers)))
+    return found
+
+
+def ruled_offers_by_hand(stock, things, offers):
+    """The ruled offers of what is left of a stock: these things and these offers, by their old numbers."""
+    left = {number: set(stock[1][number][0]) & set(things) for number in offers}
+    return ruled_by_hand(sorted(offers), lambda one, other: (left[one] <= left[other]
+                                                            and stock[1][other][1] <= stock[1][one][1]))
+
+
+def ruled_things_by_hand(stock, things, offers):
+    having = {thing: {number for number in offers if thing in stock[1][number][0]} for thing in things}
+    return ruled_by_hand(sorted(things), lambda one, other: having[other] <= having[one])
+
+
+def sweeps_by_hand(stock):
+    """The sweeps that leave out something, and what stays behind the last one, all by old numbers."""
+    things = set(range(stock[0]))
+    offers = set(range(len(stock[1])))
+    sweeps = []
+    while True:
+        ruled = {offer for offer, by in ruled_offers_by_hand(stock, things, offers)}
+        stay = offers - ruled
+        gone = {thing for thing, by in ruled_things_by_hand(stock, things, stay)}
+        ruled = ruled | {number for number in stay if not set(stock[1][number][0]) & (things - gone)}
+        if not ruled and not gone:
+            return sweeps, tuple(sorted(things)), tuple(sorted(offers))
+        sweeps.append((tuple(sorted(ruled)), tuple(sorted(gone))))
+        things = things - gone
+        offers = offers - ruled
+
+
+def left_by_hand(stock, things, offers):
+    """The stock of these things and offers alone, numbered anew."""
+    place = {thing: number for number, thing in enumerate(things)}
+    return (len(things), tuple((tuple(place[thing] for thing in stock[1][number][0] if thing in place),
+                                stock[1][number][1]) for number in offers))
+
+
+def in_row_by_hand(stock):
+    return all(things == tuple(range(min(things), max(things) + 1)) for things, price in stock[1])
+
+
+def is_order_by_hand(stock, thing):
+    if type(thing) is not tuple or any(type(number) is not int for number in thing):
+        return False
+    return len(thing) == stock[0] and set(thing) == set(range(stock[0]))
+
+
+def makes_row_by_hand(stock, thing):
+    """Somewhere in the order so many things as each offer has stand side by side that are just its things."""
+    if not is_order_by_hand(stock, thing):
+        return False
+    return all(any(set(thing[at:at + len(things)]) == set(things) for at in range(stock[0]))
+               for things, price in stock[1])
+
+
+def laid_by_hand(stock, order):
+    place = {thing: at for at, thing in enumerate(order)}
+    return (stock[0], tuple((tuple(sorted(place[thing] for thing in things)), price) for things, price in stock[1]))

@@ -88,6 +88,45 @@ def drawn_lacking(seed):
     return stocks
 
 
+def drawn_again(seed):
+    """Full stocks in which about half of the offers come of another one, a thing left out or none, a price beside."""
+    draw = random.Random(seed)
+    stocks = []
+    for many in range(1, 11):
+        for count in range(1, 13):
+            offers = list(filled(draw, drawn_stock(draw, many, (count + 1) // 2))[1])
+            while len(offers) < count:
+                things, price = draw.choice(offers)
+                things = list(things)
+                if len(things) > 1 and draw.random() < 0.7:
+                    things.remove(draw.choice(things))
+                offers.append((tuple(things), max(1, price + draw.choice((-1, 0, 0, 1)))))
+            draw.shuffle(offers)
+            stocks.append((many, tuple(offers)))
+    return stocks
+
+
+def drawn_row(seed):
+    """Full stocks in a row, of one to ten things and one to twelve offers, each pair of counts once."""
+    draw = random.Random(seed)
+    stocks = []
+    for many in range(1, 11):
+        for count in range(1, 13):
+            sort = draw.choice(("alike", "small", "great", "mixed"))
+            longest = draw.randint(1, many)
+            ends = []
+            for place in range(count):
+                first = draw.randrange(many)
+                ends.append([first, min(many - 1, first + draw.randrange(longest))])
+            for thing in range(many):
+                if not any(first <= thing <= last for first, last in ends):
+                    chosen = draw.choice(ends)
+                    chosen[:] = [min(chosen[0], thing), max(chosen[1], thing)]
+            stocks.append((many, tuple((tuple(range(first, last + 1)), drawn_price(draw, sort))
+                                       for first, last in ends)))
+    return stocks
+
+
 def spoilt(lot, count):
     """The lot of a stock of so many offers with one thing otherwise: no lot any more."""
     things = [list(lot), {number: True for number in lot}, str(lot), (lot,), lot + (count,), lot + (-1,), (-1,) + lot,

@@ -167,7 +167,9 @@ class Language(unittest.TestCase):
         defined = {}
         for name, tree in trees():
             kinds = (ast.FunctionDef, ast.ClassDef)
-            defined["cheapcovers." + name[:-3]] = [node.name for node in tree.body if isinstance(node, kinds)]
+            values = [node.targets[0].id for node in tree.body if isinstance(node, ast.Assign)]
+            made = [node.name for node in tree.body if isinstance(node, kinds)]
+            defined["cheapcovers." + name[:-3]] = made + values
         for name, tree in trees():
             used = [node.id for node in ast.walk(tree) if isinstance(node, ast.Name)]
             for node in tree.body:
