@@ -1,6 +1,6 @@
 """Stocks, tuples (many, offers), and their lots, rising tuples of offers' numbers."""
 
-from cheapcovers.errors import NoCover, NoOffer, NotFull
+from cheapcovers.errors import NoCover, NoOffer, NoThing, NotFull
 from cheapcovers.kinds import is_pair, is_rising, is_whole
 
 MOST_THINGS = 10
@@ -50,8 +50,7 @@ def needed(stock):
 
 def is_needed(stock, number):
     # All other offers are the most that a cover without this one can have.
-    offers = stock[1]
-    return not have_all(stock, offers[:number] + offers[number + 1:])
+    return not is_full(exchanged(stock, number, ()))
 
 
 def need_full(stock):
@@ -62,6 +61,11 @@ def need_full(stock):
 def need_offer(stock, offer):
     if not is_whole(offer) or offer < 0 or offer >= len(stock[1]):
         raise NoOffer("not a number of one of the stock's offers")
+
+
+def need_thing(stock, thing):
+    if not is_whole(thing) or thing < 0 or thing >= stock[0]:
+        raise NoThing("not one of the stock's things")
 
 
 def need_lot(stock, lot):
@@ -87,6 +91,11 @@ def have_all(stock, offers):
 
 def offers_with(stock, thing):
     return tuple([number for number, offer in enumerate(stock[1]) if thing in offer[0]])
+
+
+def exchanged(stock, number, offers):
+    # With no offers in its place the offer is gone, and those behind it are numbered one less.
+    return (stock[0], stock[1][:number] + offers + stock[1][number + 1:])
 
 
 def rest_of(stock, things, numbers):

@@ -245,3 +245,50 @@ def makes_row_by_hand(stock, thing):
 def laid_by_hand(stock, order):
     place = {thing: at for at, thing in enumerate(order)}
     return (stock[0], tuple((tuple(sorted(place[thing] for thing in things)), price) for things, price in stock[1]))
+
+
+def is_stock_by_hand(thing):
+    if type(thing) is not tuple or len(thing) != 2:
+        return False
+    many, offers = thing
+    if type(many) is not int or not 1 <= many <= 10 or type(offers) is not tuple or len(offers) > 12:
+        return False
+    for offer in offers:
+        if type(offer) is not tuple or len(offer) != 2 or not rising_by_hand(offer[0], many) or offer[0] == ():
+            return False
+        if type(offer[1]) is not int or offer[1] < 1:
+            return False
+    return True
+
+
+def needed_by_hand(stock):
+    covers = covers_by_hand(stock)
+    return [number for number in range(len(stock[1])) if all(number in cover for cover in covers)]
+
+
+def cheapest_by_hand(stock):
+    """All covers of the least price, rising."""
+    covers = ordered_by_hand(stock)
+    least = price_by_hand(stock, covers[0])
+    return [cover for cover in covers if price_by_hand(stock, cover) == least]
+
+
+def kept_by_hand(stock, comings):
+    """What a keeper tells when these things came: taken, borne, paid and the lot that stays."""
+    borne = [0] * stock[0]
+    taken = []
+    came = set()
+    for thing in comings:
+        if thing not in came and thing not in things_by_hand(stock, taken):
+            rooms = [(price - sum(borne[other] for other in things), number)
+                     for number, (things, price) in enumerate(stock[1]) if thing in things]
+            room, number = min(rooms)
+            borne[thing] = room
+            taken.append(number)
+        came.add(thing)
+    left = list(taken)
+    for number in taken[::-1]:
+        if came <= set(things_by_hand(stock, [other for other in left if other != number])):
+            left.remove(number)
+    return {"came": list(comings), "taken": tuple(sorted(taken)), "bears": tuple((share, 1) for share in borne),
+            "paid": price_by_hand(stock, taken), "least_kept": tuple(sorted(left))}

@@ -100,7 +100,7 @@ def drawn_again(seed):
                 things = list(things)
                 if len(things) > 1 and draw.random() < 0.7:
                     things.remove(draw.choice(things))
-                offers.append((tuple(things), max(1, price + draw.choice((-1, 0, 0, 1)))))
+                offers.append((tuple(things), min(10 ** 40 - 1, max(1, price + draw.choice((-1, 0, 0, 1))))))
             draw.shuffle(offers)
             stocks.append((many, tuple(offers)))
     return stocks

@@ -189,6 +189,39 @@ class Language(unittest.TestCase):
             self.assertTrue(more, "files draw from one another")
             settled.extend(more)
 
+    def test_methods_and_values_of_objects_are_called_otherwise_and_unlike_pythons_own(self):
+        own = [name for kind in (str, int, list, tuple, dict, set, bytes) for name in dir(kind)]
+        classes = [(name, node) for name, node in nodes() if isinstance(node, ast.ClassDef)]
+        methods = [part.name for name, node in classes for part in node.body if isinstance(part, ast.FunctionDef)]
+        values = [node.attr for name, node in nodes() if isinstance(node, ast.Attribute)
+                  and isinstance(node.ctx, ast.Store)]
+        for name in values + [name for name in methods if name != "__init__"]:
+            self.assertNotIn(name, own)
+        self.assertEqual(set(methods) & set(values), set())
+        for name, node in classes:
+            inner = [part.name for part in node.body if isinstance(part, ast.FunctionDef)]
+            self.assertEqual(len(inner), len(set(inner)), (name, node.name))
+            self.assertLessEqual(len(node.bases), 1, (name, node.name))
+            self.assertEqual(node.decorator_list, [], (name, node.name))
+            for part in node.body:
+                self.assertIsInstance(part, (ast.FunctionDef, ast.Pass), (name, node.name))
+
+    def test_only_own_errors_are_taken_and_raised(self):
+        tree = ast.parse((PACKAGE / "errors.py").read_text("ascii"))
+        own = [node.name for node in tree.body if isinstance(node, ast.ClassDef)]
+        for name, node in nodes():
+            if isinstance(node, ast.ExceptHandler):
+                self.assertIn(getattr(node.type, "id", None), own, name)
+            if isinstance(node, ast.Raise):
+                self.assertIn(called(node.exc), own, name)
+
+    def test_lists_and_dicts_of_a_files_top_hold_none(self):
+        for name, tree in trees():
+            for node in tree.body:
+                if isinstance(node, ast.Assign):
+                    inner = [part for part in ast.walk(node.value) if isinstance(part, (ast.List, ast.Dict))]
+                    self.assertEqual([part for part in inner if part is not node.value], [], name)
+
     def test_texts(self):
         for name, node in nodes():
             if isinstance(node, ast.Constant) and isinstance(node.value, str):

@@ -5,15 +5,10 @@ import unittest
 
 from cheapcovers.errors import NoCover, NotFull
 from cheapcovers.stocks import is_full, is_stock, needed, price_of, things_of
-from tests.plain import lots_of, price_by_hand, subsets, things_by_hand
+from tests.plain import lots_of, needed_by_hand, price_by_hand, subsets, things_by_hand
 from tests.samples import FULL_STOCKS, LACKING_STOCKS, other_kinds, small_stocks
 
 ALL_THINGS = tuple(range(10))
-
-
-def needed_by_hand(stock):
-    covers = [lot for lot in lots_of(stock) if things_by_hand(stock, lot) == tuple(range(stock[0]))]
-    return [number for number in range(len(stock[1])) if all(number in cover for cover in covers)]
 
 
 class IsStock(unittest.TestCase):
